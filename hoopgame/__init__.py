@@ -1,0 +1,1 @@
+"""A game of croquet refereed."""
