@@ -1,9 +1,11 @@
 """The calls on one game: how they are read, which are refused, and what they answer."""
 
 from hoopgame.rules import ALL_HOOPS, BALLS, GAME_OVER, NO_BALL, TIME_NOT_CALLED, Game, Stroke
-from hoopgame.rules import begin_turn, pass_turn, play_stroke, price_of, side_of, take_turn_more
+from hoopgame.rules import begin_turn, call_time, find_wired, pass_turn, play_stroke, price_of, side_of
+from hoopgame.rules import take_turn_more
 
 MOST_HALF_TURNS = 40
+BALLS_TOLD = 4
 
 
 class Referee:
@@ -98,10 +100,17 @@ def can_be_told(game, balls):
     return len(set(balls)) == len(balls) and not any([game.is_out(ball) for ball in balls])
 
 
-def refusal_of_pass(game):
+def refusal_between_turns(game):
+    """For pass and wired alike: both are of the side that's to begin."""
     if no_game_goes_on(game):
         return -2
     return 0 if game.turn is None else -3
+
+
+def refusal_of_time(game):
+    if no_game_goes_on(game):
+        return -2
+    return 0 if game.time == TIME_NOT_CALLED else -3
 
 
 def refusal_of_more(game, half):
@@ -149,7 +158,7 @@ def answer_stroke(referee, reader):
 
 def answer_pass(referee, reader):
     game = referee.game
-    refusal = refusal_of_pass(game)
+    refusal = refusal_between_turns(game)
     if refusal < 0:
         return [refusal]
     pass_turn(game)
@@ -166,7 +175,56 @@ def answer_more(referee, reader):
     return [game.half_turns[game.side]]
 
 
-CALLS = {1: answer_begin, 2: answer_turn, 3: answer_stroke, 4: answer_pass, 5: answer_more}
+def answer_wired(referee, reader):
+    game = referee.game
+    refusal = refusal_between_turns(game)
+    if refusal < 0:
+        return [refusal]
+    find_wired(game)
+    return [game.owed]
+
+
+def answer_time(referee, reader):
+    game = referee.game
+    refusal = refusal_of_time(game)
+    if refusal < 0:
+        return [refusal]
+    call_time(game)
+    return [0]
+
+
+def answer_now(referee, reader):
+    game = referee.game
+    if game is None:
+        return [-2]
+    if game.state() == GAME_OVER:
+        return [GAME_OVER, game.winner]
+    told = [game.state(), game.side, game.owed, game.time]
+    return told if game.turn is None else told + told_of_turn(game.turn)
+
+
+def told_of_turn(turn):
+    return [turn.ball, turn.beside, turn.half, turn.strokes] + turn.live
+
+
+def answer_balls(referee, reader):
+    game = referee.game
+    if game is None:
+        return [-2]
+    return [BALLS_TOLD] + game.points + game.half_turns
+
+
+CALLS = {
+    1: answer_begin,
+    2: answer_turn,
+    3: answer_stroke,
+    4: answer_pass,
+    5: answer_more,
+    6: answer_wired,
+    7: answer_time,
+    8: answer_now,
+    9: answer_balls,
+}
 
 
 def answer_call(referee, reader):

@@ -9,6 +9,9 @@ OUT = 13
 FIRST_LIFT = 7
 SECOND_LIFT = 10
 
+LIFT = 1
+LIFT_TO_A_BALL = 2
+
 BY_ITSELF = 0
 BALL_AT_SIDE = 1
 TURN_OVER = 2
@@ -39,6 +42,7 @@ class Turn:
         self.ball = ball
         self.half = half
         self.beside = NO_BALL
+        self.strokes = 0
         self.live = game.others_in_play(ball)
         self.hoops_before = game.points[ball]
         self.partner_before = game.points[partner_of(ball)]
@@ -120,6 +124,14 @@ def end_turn(game):
     game.last_ball = turn.ball
 
 
+def find_wired(game):
+    game.owed = max(game.owed, LIFT)
+
+
+def call_time(game):
+    game.time = TIME_CALLED
+
+
 def owed_for(game, turn):
     if game.lifts == 0:
         return 0
@@ -128,8 +140,8 @@ def owed_for(game, turn):
     came_to_first = turn.hoops_before < FIRST_LIFT <= hoops
     came_to_second = turn.hoops_before < SECOND_LIFT <= hoops
     if came_to_first and came_to_second and turn.partner_before < FIRST_LIFT:
-        return 2
-    return 1 if came_to_first or came_to_second else 0
+        return LIFT_TO_A_BALL
+    return LIFT if came_to_first or came_to_second else 0
 
 
 def price_of(half):
@@ -144,6 +156,7 @@ def take_turn_more(game, half):
 def play_stroke(game, stroke):
     # Ahead of the count: a ball that this very stroke puts out was still in play as it was hit.
     live = live_as_it_hits(game, stroke)
+    game.turn.strokes += 1
     count_points(game, stroke)
     game.winner = winner_behind_stroke(game)
     if game.winner == NO_SIDE:

@@ -1,10 +1,15 @@
 """Calls in the form that answers() takes, games brought to a wanted score, and answers call by call."""
 
-from hoopgame.referee import Reader, Referee, answer_call, answers
+from hoopgame.referee import answers
 
 LOWEST = -2147483648
 HIGHEST = 2147483647
+MOST_CALLS = 300
 PASS = [4]
+WIRED = [6]
+TIME = [7]
+NOW = [8]
+BALLS = [9]
 
 
 def begin(lifts=0, first=0, a=0, b=0):
@@ -53,6 +58,13 @@ def game(points=(0, 0, 0, 0), lifts=0, first=0, a=0, b=0):
     return calls
 
 
+def timed(points=(0, 0, 0, 0), time=1, first=0, lifts=0):
+    """Like game(), with time called; time: 1 called, 2 the last turn, 3 till one has more (points as many for both)."""
+    if time == 2:
+        return game(points, lifts, 1 - first, a=9, b=9) + [TIME, PASS]
+    return game(points, lifts, first, a=9, b=9) + [TIME] + ([PASS, PASS] if time == 3 else [])
+
+
 def over():
     """Calls up to the end of a game that side 0 has won."""
     return game((12, 0, 13, 0), a=5, b=5) + [turn(0), stroke(peg=[0])]
@@ -75,12 +87,22 @@ def split(answered):
 
 def play(calls):
     """What each of these calls, one behind another, is answered."""
+    if len(calls) > MOST_CALLS:
+        raise ValueError("more calls than a list may have")
     return split(answers(flat(calls)))
 
 
 def last(calls):
     """What the last of these calls is answered."""
     return play(calls)[-1]
+
+
+def now(calls):
+    return last(calls + [NOW])
+
+
+def balls(calls):
+    return last(calls + [BALLS])
 
 
 def owed(calls, side):
@@ -90,21 +112,3 @@ def owed(calls, side):
         ball = side + 2
     fitting = [how for how in (0, 1, 2) if last(calls + [turn(ball, how)]) == [0]]
     return max(fitting)
-
-
-class Table:
-    """A referee at work, for what no call can tell or set."""
-
-    def __init__(self, calls):
-        self.referee = Referee()
-        self.play(calls)
-
-    def play(self, calls):
-        reader = Reader(flat(calls))
-        found = []
-        while not reader.at_end():
-            found.append(answer_call(self.referee, reader))
-        return found
-
-    def last(self, calls):
-        return self.play(calls)[-1]

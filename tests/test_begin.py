@@ -2,7 +2,8 @@
 
 import unittest
 
-from tests.helper import HIGHEST, LOWEST, PASS, begin, game, hoops, last, more, over, owed, play, stroke, turn
+from tests.helper import BALLS, HIGHEST, LOWEST, NOW, PASS, TIME, WIRED, begin, game, hoops, last, more, over, owed
+from tests.helper import play, stroke, timed, turn
 
 
 class Begin(unittest.TestCase):
@@ -53,6 +54,36 @@ class NewGame(unittest.TestCase):
     def test_a_game_may_begin_behind_one_that_is_over(self):
         self.assertEqual(play(over() + [begin(), turn(2), stroke(hoop=1)])[-3:], [[0], [0], [0, 1, 0]])
 
+    def test_all_is_new_wherever_it_begins(self):
+        places = (
+            [],
+            game((5, 6, 7, 8), lifts=1, a=9, b=9),
+            [begin(1, 0, 9, 9), turn(0)] + hoops(3) + [stroke(hit=1)],
+            [begin(1, 0, 9, 9), turn(0), stroke(), more(1), stroke(hit=3)],
+            [begin(1, 0, 9, 9), turn(0)] + hoops(10) + [stroke(), WIRED],
+            [begin(1, 0, 9, 9), WIRED],
+            timed(time=1),
+            timed(time=2) + [turn(0), stroke(hit=1)],
+            timed(time=3),
+            over(),
+            timed((0, 2, 0, 0), time=2) + [PASS],
+        )
+        for calls in places:
+            for first in (0, 1):
+                answered = play(calls + [begin(0, first, 3, 4), NOW, BALLS, more(1), TIME, NOW])
+                wanted = [[0], [2, first, 0, 0], [4, 0, 0, 0, 0, 3, 4], [-3], [0], [2, first, 0, 1]]
+                self.assertEqual(answered[len(calls):], wanted)
+
+    def test_time_is_not_called_in_it(self):
+        for time in (1, 2, 3):
+            calls = timed(time=time) + [begin(0, 0, 5, 5), turn(0), stroke(hoop=1), stroke(), more(1), stroke()]
+            self.assertEqual(play(calls + [PASS, PASS, PASS, NOW])[-5:], [[2, 1, 0], [2], [2], [2], [2, 0, 0, 0]])
+
+    def test_lifts_are_told_anew(self):
+        seven = [turn(0)] + hoops(7) + [stroke()]
+        self.assertEqual(owed([begin(1)] + seven + [begin(0)] + seven, 1), 0)
+        self.assertEqual(owed([begin(0)] + seven + [begin(1)] + seven, 1), 1)
+
     def test_what_was_owed_is_gone(self):
         calls = [begin(lifts=1), turn(0)] + hoops(10) + [stroke()]
         self.assertEqual(owed(calls, 1), 2)
@@ -74,7 +105,10 @@ class NewGame(unittest.TestCase):
         self.assertEqual(play(calls)[-4:], [[-1], [1, 0, 3], [-1], [0, 0, 3]])
 
     def test_a_refused_begin_leaves_a_game_over(self):
-        self.assertEqual(play(over() + [begin(a=-1), turn(1)])[-2:], [[-1], [-2]])
+        self.assertEqual(play(over() + [begin(a=-1), turn(1), NOW])[-3:], [[-1], [-2], [3, 0]])
+
+    def test_a_refused_begin_leaves_time_called_and_what_is_owed(self):
+        self.assertEqual(play(timed(time=2) + [WIRED, begin(first=-1), NOW])[-2:], [[-1], [2, 0, 1, 2]])
 
     def test_a_refused_begin_leaves_a_turn_more_to_be_taken(self):
         self.assertEqual(last([begin(0, 0, 5, 0), turn(0), stroke(), begin(a=-1), more(0)]), [3])

@@ -89,6 +89,40 @@ class Form(unittest.TestCase):
         for name, node in self.nodes_of(ast.Constant):
             self.assertIn(node.value.__class__, (int, str, bool, None.__class__))
 
+    def test_is_beside_none_true_and_false_alone(self):
+        for name, node in self.nodes_of(ast.Compare):
+            if any(isinstance(op, (ast.Is, ast.IsNot)) for op in node.ops):
+                constants = [side for side in node.comparators if isinstance(side, ast.Constant)]
+                self.assertEqual([side.value in (None, True, False) for side in constants], [True], name)
+
+    def test_the_top_of_a_file(self):
+        for path in FILES:
+            bound = []
+            for node in ast.parse(path.read_text()).body:
+                self.assertIsInstance(node, (ast.Expr, ast.ImportFrom, ast.FunctionDef, ast.ClassDef, ast.Assign))
+                bound += [each.name for each in getattr(node, "names", [])]
+                bound += [each.id for each in getattr(node, "targets", [])]
+                bound += [node.name] if hasattr(node, "name") else []
+            self.assertEqual(len(bound), len(set(bound)), path.name)
+
+    def test_imports_are_from_the_file_that_defines_the_name(self):
+        for name, node in self.nodes_of(ast.ImportFrom):
+            tree = ast.parse((PACKAGE / (node.module.split(".", 1)[1] + ".py")).read_text())
+            defined = [each.name for each in tree.body if isinstance(each, (ast.FunctionDef, ast.ClassDef))]
+            defined += [target.id for each in tree.body if isinstance(each, ast.Assign) for target in each.targets]
+            self.assertEqual([each.name for each in node.names if each.name not in defined], [])
+
+    def test_no_local_is_called_like_a_name_of_its_files_top(self):
+        for path in FILES:
+            tree = ast.parse(path.read_text())
+            top = [each.name for node in tree.body if isinstance(node, ast.ImportFrom) for each in node.names]
+            top += [node.name for node in tree.body if isinstance(node, (ast.FunctionDef, ast.ClassDef))]
+            for function in [node for node in ast.walk(tree) if isinstance(node, ast.FunctionDef)]:
+                found = [node.arg for node in ast.walk(function) if isinstance(node, ast.arg)]
+                found += [node.id for node in ast.walk(function)
+                          if isinstance(node, ast.Name) and isinstance(node.ctx, ast.Store)]
+                self.assertEqual(set(found) & set(top), set(), (path.name, function.name))
+
     def test_no_name_is_a_method_and_a_value(self):
         methods = [each.name for name, node in self.nodes_of(ast.ClassDef) for each in node.body
                    if isinstance(each, ast.FunctionDef)]

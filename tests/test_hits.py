@@ -2,7 +2,7 @@
 
 import unittest
 
-from tests.helper import Table, begin, game, hoops, last, more, play, stroke, turn
+from tests.helper import begin, game, hoops, last, more, now, play, stroke, turn
 
 COUNTS = 1
 
@@ -68,7 +68,7 @@ class HalfTurns(unittest.TestCase):
 
 class LiveBalls(unittest.TestCase):
     def assert_live(self, calls, wanted):
-        self.assertEqual(Table(calls).referee.game.turn.live, wanted)
+        self.assertEqual(now(calls)[8:], wanted)
 
     def test_as_a_turn_begins(self):
         self.assert_live([begin(), turn(0)], [1, 2, 3])

@@ -5,11 +5,13 @@ import io
 import unittest
 
 import hoopgame.referee
-from tests.helper import HIGHEST, LOWEST, PASS, begin, flat, game, hoops, more, over, stroke, turn
+from tests.helper import BALLS, HIGHEST, LOWEST, NOW, PASS, TIME, WIRED, begin, flat, game, hoops, more, over, stroke
+from tests.helper import turn
 
 MANY = flat([
     begin(1, 0, 5, 7), turn(0), stroke(hit=1), stroke(hit=9, ran=[1, 2, 3, 4, 5, 6, 7, 8]), stroke(hoop=1, ran=[2]),
-    stroke(), more(1), stroke(off=[0, 3], peg=[2]), PASS, turn(0), turn(0, 1), stroke(fault=1),
+    stroke(), more(1), stroke(off=[0, 3], peg=[2]), PASS, turn(0), turn(0, 1), stroke(fault=1), WIRED, TIME, NOW, BALLS,
+    turn(1, 1), stroke(hit=2), NOW,
 ])
 
 
@@ -21,9 +23,18 @@ class Lists(unittest.TestCase):
         self.assertEqual(hoopgame.referee.answers([3, -1, 0, 0, 0, 0, 0]), [1, -2])
         self.assertEqual(hoopgame.referee.answers([4]), [1, -2])
         self.assertEqual(hoopgame.referee.answers([5, 1]), [1, -2])
+        for number in (6, 7, 8, 9):
+            self.assertEqual(hoopgame.referee.answers([number]), [1, -2])
+
+    def test_wired_time_now_and_balls_have_no_number_behind_them(self):
+        answered = hoopgame.referee.answers([1, 0, 0, 3, 4, 6, 7, 8, 9, 9, 8, 7, 6])
+        told = [4, 2, 0, 1, 1, 7, 4, 0, 0, 0, 0, 3, 4, 7, 4, 0, 0, 0, 0, 3, 4, 4, 2, 0, 1, 1]
+        self.assertEqual(answered, [1, 0, 1, 1, 1, 0] + told + [1, -3, 1, 1])
 
     def test_many_calls_with_the_counts_of_their_answers(self):
         wanted = [1, 0, 1, 0, 3, 1, 0, 0, 1, -1, 3, 0, 2, 0, 3, 2, 2, 0, 1, 4, 3, 2, 2, 0, 1, 2, 1, 0, 1, -3, 3, 2, 2, 0]
+        wanted += [1, 1, 1, 0, 4, 2, 1, 1, 1, 7, 4, 1, 0, 1, 0, 4, 7, 1, 0, 3, 1, 2, 0]
+        wanted += [10, 1, 1, 0, 1, 1, 2, 0, 1, 0, 3]
         self.assertEqual(hoopgame.referee.answers(MANY), wanted)
 
     def test_rows_are_read_in_their_order(self):
@@ -41,6 +52,10 @@ class Lists(unittest.TestCase):
     def test_three_hundred_calls(self):
         answered = hoopgame.referee.answers([1, 0, 0, 0, 0] + [4] * 299)
         self.assertEqual(answered, [1, 0] + [1, 2] * 299)
+
+    def test_three_hundred_questions(self):
+        answered = hoopgame.referee.answers([1, 0, 1, 40, 0, 2, 3, 0] + [8, 9] * 149)
+        self.assertEqual(answered, [1, 0, 1, 0] + [11, 0, 1, 0, 0, 3, -1, 0, 0, 0, 1, 2, 7, 4, 0, 0, 0, 0, 40, 0] * 149)
 
     def test_the_longest_rows_three_hundred_times(self):
         calls = [3, 4, 2, 2] + ([8] + [LOWEST] * 8) * 3
@@ -77,7 +92,8 @@ class NothingElse(unittest.TestCase):
         hoopgame.referee.answers(MANY)
         self.assertEqual(hoopgame.referee.answers([2, 0, 0]), [1, -2])
         hoopgame.referee.answers(flat(over()))
-        self.assertEqual(hoopgame.referee.answers([4]), [1, -2])
+        for number in (4, 6, 7, 8, 9):
+            self.assertEqual(hoopgame.referee.answers([number]), [1, -2])
 
     def test_an_answer_is_the_callers_own(self):
         first = hoopgame.referee.answers(MANY)

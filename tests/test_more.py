@@ -2,7 +2,8 @@
 
 import unittest
 
-from tests.helper import HIGHEST, LOWEST, PASS, Table, begin, game, hoops, last, more, over, play, stroke, turn
+from tests.helper import BALLS, HIGHEST, LOWEST, NOW, PASS, TIME, WIRED, begin, game, hoops, last, more, now, over
+from tests.helper import play, stroke, turn
 
 BEHIND_A_TURN = [begin(0, 0, 5, 7), turn(0), stroke()]
 
@@ -96,10 +97,19 @@ class Refusals(unittest.TestCase):
                 self.assertEqual(last(calls + [more(half)]), [-3])
 
     def test_time_is_called(self):
-        for time in (1, 2, 3):
-            table = Table(BEHIND_A_TURN)
-            table.referee.game.time = time
-            self.assertEqual(table.play([more(1), more(0), more(2)]), [[-3], [-3], [-1]])
+        tried = [more(1), more(0), more(2)]
+        for calls in (
+            BEHIND_A_TURN + [TIME],
+            [begin(0, 0, 5, 7), turn(0), TIME, stroke()],
+            [begin(0, 0, 5, 7), TIME, turn(0), stroke()],
+            [begin(0, 0, 5, 7), TIME, PASS, PASS, turn(0), stroke()],
+            BEHIND_A_TURN + [more(1), TIME, stroke()],
+        ):
+            self.assertEqual(play(calls + tried)[-3:], [[-3], [-3], [-1]])
+
+    def test_time_comes_ahead_of_the_ball_and_of_how_many_are_left(self):
+        self.assertEqual(last(game((12, 0, 0, 0)) + [turn(0), stroke(peg=[0]), TIME, more(1)]), [-3])
+        self.assertEqual(last([begin(), turn(0), stroke(), TIME, more(1)]), [-3])
 
     def test_that_ball_is_out(self):
         for half in (0, 1):
@@ -124,6 +134,24 @@ class Refusals(unittest.TestCase):
         wrong = [turn(0), turn(1, 1), turn(9), stroke(), stroke(hit=5), begin(lifts=3), more(7)]
         answered = play(BEHIND_A_TURN + wrong + [more(0)])
         self.assertEqual(answered[3:], [[-4], [-5], [-1], [-3], [-1], [-1], [-1], [3]])
+
+
+class WhatIsAskedBetween(unittest.TestCase):
+    def test_takes_no_turn_more_away(self):
+        for asked in ([NOW], [BALLS], [WIRED], [NOW, WIRED, BALLS, WIRED, NOW]):
+            for half, wanted in ((0, 3), (1, 4)):
+                self.assertEqual(last(BEHIND_A_TURN + asked + [more(half)]), [wanted])
+
+    def test_gives_no_turn_more_either(self):
+        for calls in ([begin(0, 0, 5, 7)], BEHIND_A_TURN + [PASS]):
+            for asked in ([NOW], [BALLS], [WIRED], [WIRED, NOW, BALLS]):
+                self.assertEqual(last(calls + asked + [more(1)]), [-3])
+
+    def test_the_turn_more_is_that_sides(self):
+        self.assertEqual(now(BEHIND_A_TURN), [2, 1, 0, 0])
+        self.assertEqual(now(BEHIND_A_TURN + [more(1)]), [0, 0, 0, 0, 0, -1, 1, 0, 1, 2, 3])
+        self.assertEqual(now(BEHIND_A_TURN + [more(0)]), [0, 0, 0, 0, 0, -1, 0, 0, 1, 2, 3])
+        self.assertEqual(now(BEHIND_A_TURN + [more(0), stroke()]), [2, 1, 0, 0])
 
 
 if __name__ == "__main__":

@@ -1,8 +1,8 @@
-"""What is owed when a turn is over, as turn's how shows it."""
+"""What is owed when a turn is over, as turn's how shows it and now tells it."""
 
 import unittest
 
-from tests.helper import PASS, Table, begin, game, hoops, last, more, owed, play, stroke, turn
+from tests.helper import PASS, begin, game, hoops, last, more, now, owed, play, stroke, turn
 
 # What the striker's ball had, what it has, what the other ball of its side had; what's owed then.
 CASES = (
@@ -46,9 +46,11 @@ class WhatIsOwed(unittest.TestCase):
             answers = [last(calls + [turn(1, how)]) for how in (0, 1, 2)]
             self.assertEqual(answers, [[0]] * (wanted + 1) + [[-5]] * (2 - wanted))
 
-    def test_no_number_but_0_1_and_2(self):
-        for before, behind, partner, wanted in CASES:
-            self.assertEqual(Table(turn_of(0, before, behind, partner, 1)).referee.game.owed, wanted)
+    def test_now_tells_it(self):
+        for ball in range(4):
+            for before, behind, partner, wanted in CASES:
+                calls = turn_of(ball, before, behind, partner, 1)
+                self.assertEqual(now(calls), [2, 1 - ball % 2, wanted, 0])
 
     def test_balls_that_others_sent_through_do_not_owe(self):
         calls = game((6, 6, 6, 6), lifts=1) + [turn(0), stroke(hit=1, ran=[1, 2, 3])]
@@ -81,7 +83,7 @@ class WhenItIsGone(unittest.TestCase):
 
     def test_once_the_turn_has_begun(self):
         for how in (0, 1, 2):
-            self.assertEqual(Table(self.calls + [turn(1, how)]).referee.game.owed, 0)
+            self.assertEqual(now(self.calls + [turn(1, how)])[:3], [0, 1, 0])
             begun = self.calls + [turn(1, how), stroke()]
             self.assertEqual(owed(begun, 0), 0)
             self.assertEqual(owed(begun + [PASS], 1), 0)
@@ -93,7 +95,7 @@ class WhenItIsGone(unittest.TestCase):
 
     def test_by_a_turn_more(self):
         for half in (0, 1):
-            self.assertEqual(Table(self.calls + [more(half)]).referee.game.owed, 0)
+            self.assertEqual(now(self.calls + [more(half)])[:3], [0, 0, 0])
             self.assertEqual(owed(self.calls + [more(half), stroke()], 1), 0)
             self.assertEqual(owed(self.calls + [more(half), stroke(hit=1), stroke(fault=1)], 1), 0)
 
